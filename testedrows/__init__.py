@@ -1,0 +1,1 @@
+"""Testedrows: rows that each bear a test, and no jumps among them."""
