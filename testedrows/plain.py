@@ -1,7 +1,7 @@
 """Programs run as they stand."""
 
 from testedrows.programs import check_program
-from testedrows.worths import CELLS, Ended, check_fuel, check_handed, got, put_in, reckoned, truth
+from testedrows.worths import CELLS, Ended, begin_round, check_fuel, check_handed, got, put_in, reckoned, truth
 
 
 class Course:
@@ -70,9 +70,7 @@ def do_if(deed, course):
 
 def do_while(deed, course):
     while worth_of(deed[1], course) != 0:
-        if course.fuel == 0:
-            raise Ended(("long",))
-        course.fuel -= 1
+        begin_round(course)
         do_body(deed[2], course)
 
 

@@ -41,6 +41,13 @@ def check_fuel(fuel):
         raise BadFuel("no number from 0 to 1000")
 
 
+def begin_round(course):
+    """Take a round from the fuel of what is being run; all is over where there is none left."""
+    if course.fuel == 0:
+        raise Ended(("long",))
+    course.fuel -= 1
+
+
 def reckoned(word, one, other):
     """What a word of two worths comes to."""
     if word == "add":
