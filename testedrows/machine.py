@@ -1,7 +1,7 @@
 """The machine on which nothing is jumped over."""
 
 from testedrows.rows import REGISTERS, check_tested
-from testedrows.worths import CELLS, Ended, begin_round, check_fuel, check_handed, got, put_in, reckoned, truth
+from testedrows.worths import CELLS, Ended, begin_round, check_fuel, check_handed, end_of, got, put_in, reckoned, truth
 
 
 class Machine:
@@ -20,14 +20,14 @@ class Machine:
 def run_rows(tested, handed, fuel):
     """Tell (said, end, cells) of a tested program."""
     machine = made_machine(tested, handed, fuel)
-    end = end_of_pieces(tested[2], machine)
+    end = end_of(do_pieces, tested[2], machine)
     return (machine.said, end, machine.cells)
 
 
 def counts(tested, handed, fuel):
     """Tell (how many rows are looked at, how many of them are done)."""
     machine = made_machine(tested, handed, fuel)
-    end_of_pieces(tested[2], machine)
+    end_of(do_pieces, tested[2], machine)
     return (machine.looked, machine.done)
 
 
@@ -40,57 +40,53 @@ def made_machine(tested, handed, fuel):
     return Machine(handed + [0] * (REGISTERS - ins), fuel)
 
 
-def end_of_pieces(pieces, machine):
-    try:
-        do_pieces(pieces, machine)
-    except Ended as ended:
-        return ended.end
-    return ("worth", 0)
-
-
 def do_pieces(pieces, machine):
     at = 0
     while at != -1:
         rows, goes = pieces[at]
-        machine.holding = {0: True}
+        begin_piece(machine)
         for row in rows:
-            look_at(row, machine)
-        following = piece_behind(goes, machine)
+            look_at(row, machine.holding, machine.registers, machine)
+        following = piece_behind(goes, machine.holding)
         if 0 <= following <= at:
             begin_round(machine)
         at = following
 
 
-def piece_behind(goes, machine):
+def begin_piece(machine):
+    machine.holding = {0: True}
+
+
+def piece_behind(goes, holding):
     """Where the first of the goes leads whose test holds; the last one's always does."""
-    return [piece for test, piece in goes if holds(test, machine)][0]
+    return [piece for test, piece in goes if holds(test, holding)][0]
 
 
-def holds(test, machine):
-    return machine.holding.get(test, False)
+def holds(test, holding):
+    return holding.get(test, False)
 
 
-def look_at(row, machine):
+def look_at(row, holding, registers, machine):
+    """Look at a row, by what holds and by what the registers hold; what it does is done to the machine."""
     # Counted first: a row that stops or fails is counted, too.
     machine.looked += 1
-    is_done = holds(row[0], machine)
+    is_done = holds(row[0], holding)
     if is_done:
         machine.done += 1
     if row[1] == "test":
-        make_tests(row, is_done, machine)
+        make_tests(row, is_done, registers, machine)
     elif is_done:
-        do_row(row, machine)
+        do_row(row, registers, machine)
 
 
-def make_tests(row, is_done, machine):
-    is_zero = machine.registers[row[4]] == 0
+def make_tests(row, is_done, registers, machine):
+    is_zero = registers[row[4]] == 0
     machine.holding[row[2]] = is_done and not is_zero
     machine.holding[row[3]] = is_done and is_zero
 
 
-def do_row(row, machine):
+def do_row(row, registers, machine):
     word = row[1]
-    registers = machine.registers
     if word == "put":
         put_in(machine.cells, registers[row[2]], registers[row[3]])
     elif word == "say":
@@ -98,13 +94,12 @@ def do_row(row, machine):
     elif word == "stop":
         raise Ended(("worth", registers[row[2]]))
     else:
-        registers[row[2]] = worth_of_row(row, machine)
+        machine.registers[row[2]] = worth_of_row(row, registers, machine.cells)
 
 
-def worth_of_row(row, machine):
+def worth_of_row(row, registers, cells):
     """What a row writes in its register."""
     word = row[1]
-    registers = machine.registers
     if word == "num":
         return row[3]
     if word == "copy":
@@ -112,5 +107,5 @@ def worth_of_row(row, machine):
     if word == "not":
         return 1 - truth(registers[row[3]])
     if word == "get":
-        return got(machine.cells, registers[row[3]])
+        return got(cells, registers[row[3]])
     return reckoned(word, registers[row[3]], registers[row[4]])

@@ -1,7 +1,7 @@
 """Programs run as they stand."""
 
 from testedrows.programs import check_program
-from testedrows.worths import CELLS, Ended, begin_round, check_fuel, check_handed, got, put_in, reckoned, truth
+from testedrows.worths import CELLS, Ended, begin_round, check_fuel, check_handed, end_of, got, put_in, reckoned, truth
 
 
 class Course:
@@ -21,16 +21,8 @@ def run(program, handed, fuel):
     check_handed(handed, ins)
     check_fuel(fuel)
     course = Course(handed + [0] * (names - ins), fuel)
-    end = end_of(body, course)
+    end = end_of(do_body, body, course)
     return (course.said, end, course.cells)
-
-
-def end_of(body, course):
-    try:
-        do_body(body, course)
-    except Ended as ended:
-        return ended.end
-    return ("worth", 0)
 
 
 def do_body(body, course):

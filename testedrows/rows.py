@@ -1,6 +1,6 @@
-"""What a tested program is, and what is refused as none."""
+"""What a tested program is, what is refused as none, and what its rows write, read and make."""
 
-from testedrows.errors import BadTested
+from testedrows.errors import BadTested, NotOne
 from testedrows.programs import MOST_INS, MOST_NAMES
 from testedrows.worths import is_within, is_worth
 
@@ -28,6 +28,8 @@ PLACES = {
     "stop": ("read",),
     "test": ("made", "made", "read"),
 }
+# Words that can neither fail nor show, but for what they write.
+QUIET = ("num", "copy", "add", "take", "times", "less", "same", "not")
 
 
 def check_tested(tested):
@@ -104,3 +106,54 @@ def is_go(go, pieces):
         return False
     test, piece = go
     return is_test(test) and is_within(piece, -1, pieces - 1)
+
+
+def check_one_piece(tested):
+    """Refuse what is no tested program, and one that isn't a single piece all of whose goes are -1."""
+    check_tested(tested)
+    pieces = tested[2]
+    if len(pieces) != 1 or any([piece != -1 for test, piece in pieces[0][1]]):
+        raise NotOne("not one piece that goes to the end alone")
+
+
+def is_quiet(row):
+    return row[1] in QUIET
+
+
+def written_by(row):
+    """The register that a row writes, in a list, or none."""
+    return numbers_at("written", row)
+
+
+def read_by(row):
+    return numbers_at("read", row)
+
+
+def made_by(row):
+    """The tests that a row makes, p ahead of q, or none."""
+    return numbers_at("made", row)
+
+
+def numbers_at(place, row):
+    """What stands in those places of a row that are of one kind."""
+    return [number for kind, number in zip(PLACES[row[1]], row[2:]) if kind == place]
+
+
+def lone_makers(rows):
+    """Of a piece, by each test that one row alone makes: that row's number."""
+    makers = {}
+    for at, row in enumerate(rows):
+        for test in made_by(row):
+            makers.setdefault(test, []).append(at)
+    return {test: numbers[0] for test, numbers in makers.items() if len(numbers) == 1}
+
+
+def lineage(test, rows, makers):
+    """A test and all those from which it comes, as keys; makers is what lone_makers tells of the rows."""
+    met = {}
+    # A test may come from itself, over one row or over several.
+    while test not in met:
+        met[test] = True
+        if test in makers:
+            test = rows[makers[test]][0]
+    return met

@@ -48,6 +48,15 @@ def begin_round(course):
     course.fuel -= 1
 
 
+def end_of(doing, things, course):
+    """How all ends, where the things are done in the course of a run."""
+    try:
+        doing(things, course)
+    except Ended as ended:
+        return ended.end
+    return ("worth", 0)
+
+
 def reckoned(word, one, other):
     """What a word of two worths comes to."""
     if word == "add":

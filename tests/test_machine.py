@@ -1,10 +1,9 @@
 """Points [1], [7] and [8]: how the machine goes, which rows are done, rounds and fuel, and what is told."""
 
 import copy
-import random
 import unittest
 
-from made import SIGNS
+from made import SIGNS, MadeRows
 from testedrows.errors import BadFuel, BadHanded, BadTested
 from testedrows.machine import counts, run_rows
 
@@ -435,37 +434,6 @@ class TestNothingIsChanged(unittest.TestCase):
         self.assertRaises(BadFuel, run_rows, self.TESTED, [8, 9], 1001)
         self.assertEqual(counts(self.TESTED, [8, 9], 1), first)
         self.assertEqual(run_rows(self.TESTED, [8, 9], 1), self.TOLD)
-
-
-class MadeRows:
-    """Tested programs made at random, always the same ones of the same seed."""
-
-    def __init__(self, seed):
-        self.chance = random.Random(seed)
-
-    def register(self):
-        return self.chance.randrange(5)
-
-    def row(self):
-        word = self.chance.choice(("num", "num", "copy", "not", "get", "get", "add", "take", "times", "over", "rest",
-                                   "less", "same", "put", "put", "say", "say", "stop", "test", "test", "test"))
-        test = self.chance.choice((0, 0, 1, 2, 3, 4))
-        if word == "num":
-            return (test, word, self.register(), self.chance.choice((0, 1, 15, 16, 10006)))
-        if word == "test":
-            return (test, word, *self.chance.sample(range(1, 5), 2), self.register())
-        many = {"say": 1, "stop": 1, "copy": 2, "not": 2, "get": 2, "put": 2}.get(word, 3)
-        return (test, word, *[self.register() for _ in range(many)])
-
-    def tested(self):
-        many = self.chance.randrange(1, 5)
-        pieces = []
-        for _ in range(many):
-            rows = tuple([self.row() for _ in range(self.chance.randrange(9))])
-            tests = [self.chance.randrange(5) for _ in range(self.chance.randrange(3))] + [0]
-            pieces.append((rows, tuple([(test, self.chance.randrange(-1, many)) for test in tests])))
-        ins = self.chance.randrange(4)
-        return (ins, self.chance.randrange(ins, 6), tuple(pieces))
 
 
 def row_text(row):
