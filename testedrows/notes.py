@@ -136,16 +136,22 @@ def read_deed(reading):
     if word not in DEEDS:
         raise BadText(reading.place)
     reading.place += 1
-    held = (word,)
-    for kind in DEEDS[word]:
-        if kind == "name":
-            held += (read_name(reading),)
-        elif kind == "part":
-            held += (read_part(reading),)
-        else:
-            # The former body of an if is the only one that doesn't end by `end`.
-            held += (read_body("else" if word == "if" and len(held) == 2 else "end", reading),)
-    return held
+    if word == "set":
+        name = read_name(reading)
+        return (word, name, read_part(reading))
+    if word == "if":
+        part = read_part(reading)
+        body = read_body("else", reading)
+        return (word, part, body, read_body("end", reading))
+    if word == "while":
+        part = read_part(reading)
+        return (word, part, read_body("end", reading))
+    return (word,) + read_parts(DEEDS[word], reading)
+
+
+def read_parts(places, reading):
+    """A part for each of the places."""
+    return tuple([read_part(reading) for place in places])
 
 
 def read_part(reading):
@@ -156,7 +162,7 @@ def read_part(reading):
         return ("name", name)
     if word in PARTS and word not in ("num", "name"):
         reading.place += 1
-        return (word,) + tuple([read_part(reading) for kind in PARTS[word]])
+        return (word,) + read_parts(PARTS[word], reading)
     return ("num", read_number(MOST_OF_NUMBER, reading))
 
 
@@ -195,7 +201,7 @@ def read_rows(text):
 
 def head_of(words):
     """(ins, names) of the first line's words; None if they can't be such."""
-    if len(words) != 3 or words[0] != "tested":
+    if words[0] != "tested":
         return None
     return numbers_of(words[1:], [MOST_OF_NAME, MOST_OF_NAME])
 

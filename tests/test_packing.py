@@ -359,6 +359,7 @@ class TestFits(unittest.TestCase):
         self.tells(False, [(0, 1), (2, 3), (4,)])
         self.tells(False, [0, 1, 2, 3, 4])
         self.tells(False, [[[0, 1], [2, 3], [4]]])
+        self.tells(False, ([0, 1], [2, 3], [4]))
 
     def test_no_rows(self):
         for width in (1, 2, 3, 4):
